@@ -1,0 +1,65 @@
+package avouch_test
+
+import (
+	"strings"
+	"testing"
+
+	"avouch/api"
+	"avouch/avouch"
+)
+
+type answers struct {
+	checked api.Errno
+	place   int
+	outcome api.Outcome
+	ran     api.Errno
+	holds   bool
+	asked   api.Errno
+}
+
+func askAll(text string, state api.State, fuel int) answers {
+	var all answers
+	all.checked, all.place = avouch.Check(text)
+	all.outcome, all.ran, _ = avouch.Run(text, state, fuel)
+	all.holds, all.asked, _ = avouch.Holds(text, fuel%2 == 0, state)
+	return all
+}
+
+// TestEveryCallEnds asks texts of chance bytes, and programs with chance bytes
+// in them (P1).
+func TestEveryCallEnds(t *testing.T) {
+	d := dice(7)
+	for range 20000 {
+		bytes := []byte(counting)
+		if d.below(2) == 0 {
+			bytes = make([]byte, d.below(api.MaxText+10))
+			for i := range bytes {
+				bytes[i] = "abcd01:=<>+-();from \n\t\xff"[d.below(23)]
+			}
+		}
+		for range d.below(4) {
+			if len(bytes) > 0 {
+				bytes[d.below(len(bytes))] = byte(d.below(256))
+			}
+		}
+		text := string(bytes)
+		state := api.State{d.below(9) - 4, d.below(9) - 4}
+		first := askAll(text, state, d.below(50)-5)
+		if first.place < 0 || first.place > len(text) {
+			t.Fatalf("P3: Check(%q) tells the place %d", text, first.place)
+		}
+		if first.checked != api.OK && (first.ran != first.checked || first.asked != first.checked || first.outcome != (api.Outcome{}) || first.holds) {
+			t.Fatalf("P1: with %q: %+v", text, first)
+		}
+	}
+}
+
+func TestAnswersHangOnTheArgumentsAlone(t *testing.T) {
+	for _, text := range []string{counting, shortest, "from", "from ((((((((((((", strings.Repeat("9", 1000)} {
+		first := askAll(text, api.State{1, 5}, 7)
+		askAll("from a < b do while true keep true do a := a + 1 end to false", api.State{1, 2, 3, 4}, api.MaxFuel)
+		if again := askAll(text, api.State{1, 5}, 7); again != first {
+			t.Errorf("P2: of %.40q first %+v, then %+v", text, first, again)
+		}
+	}
+}

@@ -1,0 +1,59 @@
+// Package avouch: programs with what is to hold, run and proved: see DOC.md.
+package avouch
+
+import (
+	"avouch/api"
+	"avouch/machine"
+	"avouch/syntax"
+)
+
+// Check looks whether a text is a program (P3).
+func Check(text string) (api.Errno, int) {
+	_, errno, place := syntax.Parse(text)
+	return errno, place
+}
+
+// Run runs a program (P4).
+func Run(text string, state api.State, fuel int) (api.Outcome, api.Errno, int) {
+	program, errno, place := syntax.Parse(text)
+	if errno != api.OK {
+		return api.Outcome{}, errno, place
+	}
+	if !machine.MayBe(state) {
+		return api.Outcome{}, api.ErrState, 0
+	}
+	if fuel < 0 || fuel > api.MaxFuel {
+		return api.Outcome{}, api.ErrFuel, 0
+	}
+	return machine.Run(program.Body, state, fuel), api.OK, 0
+}
+
+// Holds tells whether what is to hold ahead of a program, or behind it, holds (P5).
+func Holds(text string, behind bool, state api.State) (bool, api.Errno, int) {
+	program, errno, place := syntax.Parse(text)
+	if errno != api.OK {
+		return false, errno, place
+	}
+	if !machine.MayBe(state) {
+		return false, api.ErrState, 0
+	}
+	if behind {
+		return machine.Holds(program.To, state), api.OK, 0
+	}
+	return machine.Holds(program.From, state), api.OK, 0
+}
+
+// Conditions is what has to be proved (P6).
+func Conditions(text string) ([]string, api.Errno, int) { return nil, api.OK, 0 }
+
+// Value tells whether a condition holds at a state (P7).
+func Value(condition string, state api.State) (bool, api.Errno) { return false, api.OK }
+
+// Confirm looks a proof over (P8).
+func Confirm(condition string, proof string) (bool, api.Errno) { return false, api.OK }
+
+// Prove proves a condition, or refutes it (P9).
+func Prove(condition string, budget int) (api.Answer, api.Errno) { return api.Answer{}, api.OK }
+
+// Verify proves all conditions of a program (P10).
+func Verify(text string, budget int) (api.Answer, api.Errno, int) { return api.Answer{}, api.OK, 0 }
