@@ -15,6 +15,10 @@ type answers struct {
 	ran     api.Errno
 	holds   bool
 	asked   api.Errno
+	list    string
+	made    api.Errno
+	value   bool
+	valued  api.Errno
 }
 
 func askAll(text string, state api.State, fuel int) answers {
@@ -22,6 +26,13 @@ func askAll(text string, state api.State, fuel int) answers {
 	all.checked, all.place = avouch.Check(text)
 	all.outcome, all.ran, _ = avouch.Run(text, state, fuel)
 	all.holds, all.asked, _ = avouch.Holds(text, fuel%2 == 0, state)
+	list, made, _ := avouch.Conditions(text)
+	all.list, all.made = strings.Join(list, "\n"), made
+	condition := text
+	if len(list) > 0 {
+		condition = list[len(list)-1]
+	}
+	all.value, all.valued = avouch.Value(condition, state)
 	return all
 }
 
@@ -48,7 +59,7 @@ func TestEveryCallEnds(t *testing.T) {
 		if first.place < 0 || first.place > len(text) {
 			t.Fatalf("P3: Check(%q) tells the place %d", text, first.place)
 		}
-		if first.checked != api.OK && (first.ran != first.checked || first.asked != first.checked || first.outcome != (api.Outcome{}) || first.holds) {
+		if first.checked != api.OK && (first.ran != first.checked || first.asked != first.checked || first.made != first.checked || first.outcome != (api.Outcome{}) || first.holds || first.list != "") {
 			t.Fatalf("P1: with %q: %+v", text, first)
 		}
 	}

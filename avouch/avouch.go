@@ -3,8 +3,10 @@ package avouch
 
 import (
 	"avouch/api"
+	"avouch/logic"
 	"avouch/machine"
 	"avouch/syntax"
+	"avouch/weakest"
 )
 
 // Check looks whether a text is a program (P3).
@@ -44,10 +46,29 @@ func Holds(text string, behind bool, state api.State) (bool, api.Errno, int) {
 }
 
 // Conditions is what has to be proved (P6).
-func Conditions(text string) ([]string, api.Errno, int) { return nil, api.OK, 0 }
+func Conditions(text string) ([]string, api.Errno, int) {
+	program, errno, place := syntax.Parse(text)
+	if errno != api.OK {
+		return nil, errno, place
+	}
+	list, fits := weakest.Conditions(program)
+	if !fits {
+		return nil, api.ErrBig, 0
+	}
+	return list, api.OK, 0
+}
 
 // Value tells whether a condition holds at a state (P7).
-func Value(condition string, state api.State) (bool, api.Errno) { return false, api.OK }
+func Value(condition string, state api.State) (bool, api.Errno) {
+	whole, right := logic.Parse(condition)
+	if !right {
+		return false, api.ErrCondition
+	}
+	if !machine.MayBe(state) {
+		return false, api.ErrState
+	}
+	return whole.Holds(state), api.OK
+}
 
 // Confirm looks a proof over (P8).
 func Confirm(condition string, proof string) (bool, api.Errno) { return false, api.OK }
