@@ -19,6 +19,12 @@ type answers struct {
 	made    api.Errno
 	value   bool
 	valued  api.Errno
+	right   bool
+	looked  api.Errno
+	verdict int
+	model   api.State
+	proofs  string
+	proved  api.Errno
 }
 
 func askAll(text string, state api.State, fuel int) answers {
@@ -33,6 +39,9 @@ func askAll(text string, state api.State, fuel int) answers {
 		condition = list[len(list)-1]
 	}
 	all.value, all.valued = avouch.Value(condition, state)
+	all.right, all.looked = avouch.Confirm(condition, text)
+	answer, proved := avouch.Prove(condition, fuel)
+	all.verdict, all.model, all.proofs, all.proved = answer.Verdict, answer.Model, strings.Join(answer.Proofs, "\n"), proved
 	return all
 }
 
@@ -60,6 +69,9 @@ func TestEveryCallEnds(t *testing.T) {
 			t.Fatalf("P3: Check(%q) tells the place %d", text, first.place)
 		}
 		if first.checked != api.OK && (first.ran != first.checked || first.asked != first.checked || first.made != first.checked || first.outcome != (api.Outcome{}) || first.holds || first.list != "") {
+			t.Fatalf("P1: with %q: %+v", text, first)
+		}
+		if first.looked != api.OK && first.right || first.proved != api.OK && (first.verdict != 0 || first.model != (api.State{}) || first.proofs != "") {
 			t.Fatalf("P1: with %q: %+v", text, first)
 		}
 	}

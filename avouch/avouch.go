@@ -3,8 +3,10 @@ package avouch
 
 import (
 	"avouch/api"
+	"avouch/kernel"
 	"avouch/logic"
 	"avouch/machine"
+	"avouch/prover"
 	"avouch/syntax"
 	"avouch/weakest"
 )
@@ -71,10 +73,25 @@ func Value(condition string, state api.State) (bool, api.Errno) {
 }
 
 // Confirm looks a proof over (P8).
-func Confirm(condition string, proof string) (bool, api.Errno) { return false, api.OK }
+func Confirm(condition string, proof string) (bool, api.Errno) {
+	whole, right := logic.Parse(condition)
+	if !right {
+		return false, api.ErrCondition
+	}
+	return kernel.New().Confirms(whole, proof), api.OK
+}
 
 // Prove proves a condition, or refutes it (P9).
-func Prove(condition string, budget int) (api.Answer, api.Errno) { return api.Answer{}, api.OK }
+func Prove(condition string, budget int) (api.Answer, api.Errno) {
+	whole, right := logic.Parse(condition)
+	if !right {
+		return api.Answer{}, api.ErrCondition
+	}
+	if budget < 0 || budget > api.MaxBudget {
+		return api.Answer{}, api.ErrBudget
+	}
+	return prover.New().Prove(whole, budget), api.OK
+}
 
 // Verify proves all conditions of a program (P10).
 func Verify(text string, budget int) (api.Answer, api.Errno, int) { return api.Answer{}, api.OK, 0 }

@@ -1,5 +1,6 @@
 // Package logic has what is proved of programs: conditions, as they are
-// made, written, read, and asked at a state.
+// made, written, read, and asked: at a state, or by what is assumed of their
+// atoms.
 package logic
 
 import (
@@ -60,6 +61,15 @@ func (a Atom) holds(state api.State) bool {
 	return a.Left.value(state)-a.Right.value(state) <= a.Bound
 }
 
+// If is what an atom says, if it is assumed to be of this truth: itself, or
+// that Right less Left is at most what lies one beyond.
+func (a Atom) If(truth Truth) Atom {
+	if truth == Failing {
+		return Atom{Left: a.Right, Right: a.Left, Bound: -a.Bound - 1}
+	}
+	return a
+}
+
 // Symbol is an atom, or one byte of a condition's text.
 type Symbol struct {
 	Kind Kind
@@ -111,34 +121,57 @@ func (s Symbol) replace(old, by Operand, number int) Symbol {
 	return s
 }
 
-// Holds tells whether a condition holds at a state. It goes from the last
-// symbol to the first, so that the values of a symbol's parts are there when
-// the symbol comes.
-func (c Condition) Holds(state api.State) bool {
-	var values []bool
-	for _, symbol := range slices.Backward(c) {
-		rest := len(values) - symbol.Kind.parts()
-		value := symbol.holds(state, values[rest:])
-		values = append(values[:rest], value)
+// Atoms are a condition's atoms, each once, in the order in which they come
+// first: an atom's place here is its number.
+func (c Condition) Atoms() []Atom {
+	var atoms []Atom
+	for _, symbol := range c {
+		if symbol.Kind == Atomic && !slices.Contains(atoms, symbol.Atom) {
+			atoms = append(atoms, symbol.Atom)
+		}
 	}
-	return values[0]
+	return atoms
 }
 
-// holds gets the values of the parts, the second part's first.
-func (s Symbol) holds(state api.State, parts []bool) bool {
+// Holds tells whether a condition holds at a state.
+func (c Condition) Holds(state api.State) bool {
+	at := func(atom Atom) Truth { return truthOf(atom.holds(state)) }
+	return c.settle(at) == Holding
+}
+
+// Settled is what is known of a condition, by what is assumed of its atoms; of
+// those that are not in the map nothing is.
+func (c Condition) Settled(assumed map[Atom]Truth) Truth {
+	return c.settle(func(atom Atom) Truth { return assumed[atom] })
+}
+
+// settle goes from the last symbol to the first, so that what is known of a
+// symbol's parts is there when the symbol comes.
+func (c Condition) settle(known func(Atom) Truth) Truth {
+	truths := make([]Truth, 0, len(c))
+	for i := len(c) - 1; i >= 0; i-- {
+		rest := len(truths) - c[i].Kind.parts()
+		truth := c[i].settle(known, truths[rest:])
+		truths = append(truths[:rest], truth)
+	}
+	return truths[0]
+}
+
+// settle gets what is known of the parts, the second part's first.
+func (s *Symbol) settle(known func(Atom) Truth, parts []Truth) Truth {
 	switch s.Kind {
 	case True:
-		return true
+		return Holding
 	case Not:
-		return !parts[0]
+		return parts[0].Not()
 	case And:
-		return parts[1] && parts[0]
+		return Both(parts[1], parts[0])
 	case Or:
-		return parts[1] || parts[0]
+		return Either(parts[1], parts[0])
 	case Implies:
-		return !parts[1] || parts[0]
+		return Either(parts[1].Not(), parts[0])
 	case Atomic:
-		return s.Atom.holds(state)
+		return known(s.Atom)
 	}
-	return false
+	return Failing
 }

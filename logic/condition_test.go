@@ -104,3 +104,61 @@ func TestHolds(t *testing.T) {
 		}
 	}
 }
+
+func TestAtoms(t *testing.T) {
+	a, b := Variable(0), Variable(1)
+	for text, want := range map[string][]Atom{
+		"!t": {},
+		"|&b-a<=0.!a-b<=0.>b-a<=0.|a-b<=1.a-b<=0.": {{b, a, 0}, {a, b, 0}, {a, b, 1}},
+	} {
+		if got := mustParse(t, text).Atoms(); !slices.Equal(got, want) {
+			t.Errorf("the atoms of %q are %v, want %v", text, got, want)
+		}
+	}
+}
+
+// What an atom says, and what it says if it fails, are never both so.
+func TestIf(t *testing.T) {
+	atom := Atom{Variable(0), Variable(1), 3}
+	if got := atom.If(Holding); got != atom {
+		t.Errorf("if it holds: %v", got)
+	}
+	failing := atom.If(Failing)
+	if want := (Atom{Variable(1), Variable(0), -4}); failing != want {
+		t.Errorf("if it fails: %v, want %v", failing, want)
+	}
+	for value := range 10 {
+		state := api.State{value}
+		if atom.holds(state) == failing.holds(state) {
+			t.Errorf("at %v both are %v", state, atom.holds(state))
+		}
+	}
+}
+
+func TestSettled(t *testing.T) {
+	a, b := Variable(0), Variable(1)
+	assumed := map[Atom]Truth{{a, b, 0}: Holding, {b, a, 0}: Failing}
+	for text, want := range map[string]Truth{
+		"t":                    Holding,
+		"f":                    Failing,
+		"a-b<=0.":              Holding,
+		"b-a<=0.":              Failing,
+		"a-b<=1.":              Open,
+		"!a-b<=1.":             Open,
+		"&a-b<=0.a-b<=1.":      Open,
+		"&a-b<=1.b-a<=0.":      Failing,
+		"|a-b<=1.a-b<=0.":      Holding,
+		"|b-a<=0.a-b<=1.":      Open,
+		">a-b<=1.a-b<=0.":      Holding,
+		">b-a<=0.a-b<=1.":      Holding,
+		">a-b<=0.a-b<=1.":      Open,
+		">a-b<=1.b-a<=0.":      Open,
+		">a-b<=0.b-a<=0.":      Failing,
+		"|a-b<=1.!a-b<=1.":     Open,
+		"&|a-b<=1.t!&a-b<=1.f": Holding,
+	} {
+		if got := mustParse(t, text).Settled(assumed); got != want {
+			t.Errorf("%q is %d, want %d", text, got, want)
+		}
+	}
+}
