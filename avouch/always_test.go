@@ -9,22 +9,35 @@ import (
 )
 
 type answers struct {
-	checked api.Errno
-	place   int
-	outcome api.Outcome
-	ran     api.Errno
-	holds   bool
-	asked   api.Errno
-	list    string
-	made    api.Errno
-	value   bool
-	valued  api.Errno
-	right   bool
-	looked  api.Errno
+	checked  api.Errno
+	place    int
+	outcome  api.Outcome
+	ran      api.Errno
+	holds    bool
+	asked    api.Errno
+	list     string
+	made     api.Errno
+	value    bool
+	valued   api.Errno
+	right    bool
+	looked   api.Errno
+	one      told
+	proved   api.Errno
+	whole    told
+	verified api.Errno
+	where    int
+}
+
+// told is an api.Answer in a form that can be held against another by ==.
+type told struct {
 	verdict int
+	index   int
 	model   api.State
 	proofs  string
-	proved  api.Errno
+}
+
+func tell(answer api.Answer) told {
+	return told{answer.Verdict, answer.Index, answer.Model, strings.Join(answer.Proofs, "\n")}
 }
 
 func askAll(text string, state api.State, fuel int) answers {
@@ -41,7 +54,9 @@ func askAll(text string, state api.State, fuel int) answers {
 	all.value, all.valued = avouch.Value(condition, state)
 	all.right, all.looked = avouch.Confirm(condition, text)
 	answer, proved := avouch.Prove(condition, fuel)
-	all.verdict, all.model, all.proofs, all.proved = answer.Verdict, answer.Model, strings.Join(answer.Proofs, "\n"), proved
+	all.one, all.proved = tell(answer), proved
+	answer, all.verified, all.where = avouch.Verify(text, fuel)
+	all.whole = tell(answer)
 	return all
 }
 
@@ -68,13 +83,27 @@ func TestEveryCallEnds(t *testing.T) {
 		if first.place < 0 || first.place > len(text) {
 			t.Fatalf("P3: Check(%q) tells the place %d", text, first.place)
 		}
-		if first.checked != api.OK && (first.ran != first.checked || first.asked != first.checked || first.made != first.checked || first.outcome != (api.Outcome{}) || first.holds || first.list != "") {
-			t.Fatalf("P1: with %q: %+v", text, first)
-		}
-		if first.looked != api.OK && first.right || first.proved != api.OK && (first.verdict != 0 || first.model != (api.State{}) || first.proofs != "") {
+		if !inOrder(first) {
 			t.Fatalf("P1: with %q: %+v", text, first)
 		}
 	}
+}
+
+// inOrder tells whether the refusals agree with each other, and have nothing
+// beside them.
+func inOrder(all answers) bool {
+	if all.checked != api.OK {
+		if all.ran != all.checked || all.asked != all.checked || all.made != all.checked || all.verified != all.checked || all.where != all.place {
+			return false
+		}
+		if all.outcome != (api.Outcome{}) || all.holds || all.list != "" {
+			return false
+		}
+	}
+	if all.looked != api.OK && all.right || all.proved != api.OK && all.one != (told{}) {
+		return false
+	}
+	return all.verified == api.OK || all.whole == told{}
 }
 
 func TestAnswersHangOnTheArgumentsAlone(t *testing.T) {

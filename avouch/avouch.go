@@ -49,6 +49,18 @@ func Holds(text string, behind bool, state api.State) (bool, api.Errno, int) {
 
 // Conditions is what has to be proved (P6).
 func Conditions(text string) ([]string, api.Errno, int) {
+	list, errno, place := conditions(text)
+	if errno != api.OK {
+		return nil, errno, place
+	}
+	texts := make([]string, len(list))
+	for i, whole := range list {
+		texts[i] = whole.Text()
+	}
+	return texts, api.OK, 0
+}
+
+func conditions(text string) ([]logic.Condition, api.Errno, int) {
 	program, errno, place := syntax.Parse(text)
 	if errno != api.OK {
 		return nil, errno, place
@@ -87,11 +99,22 @@ func Prove(condition string, budget int) (api.Answer, api.Errno) {
 	if !right {
 		return api.Answer{}, api.ErrCondition
 	}
-	if budget < 0 || budget > api.MaxBudget {
+	if !rightBudget(budget) {
 		return api.Answer{}, api.ErrBudget
 	}
 	return prover.New().Prove(whole, budget), api.OK
 }
 
 // Verify proves all conditions of a program (P10).
-func Verify(text string, budget int) (api.Answer, api.Errno, int) { return api.Answer{}, api.OK, 0 }
+func Verify(text string, budget int) (api.Answer, api.Errno, int) {
+	list, errno, place := conditions(text)
+	if errno != api.OK {
+		return api.Answer{}, errno, place
+	}
+	if !rightBudget(budget) {
+		return api.Answer{}, api.ErrBudget, 0
+	}
+	return prover.All(list, budget), api.OK, 0
+}
+
+func rightBudget(budget int) bool { return budget >= 0 && budget <= api.MaxBudget }

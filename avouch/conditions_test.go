@@ -88,10 +88,10 @@ func choices() string { return strings.Repeat(";if a=b then skip else skip end",
 
 const behind28 = "a=b or not a<-999"
 
-// TestConditionsAtMaxCondition: each pair of programs differs in one byte of
-// one condition, which has MaxCondition bytes or one more.
-func TestConditionsAtMaxCondition(t *testing.T) {
-	for name, program := range map[string]func(not string) string{
+// aroundMaxCondition are pairs of programs that differ in one byte of one
+// condition: with nothing it has MaxCondition bytes, with "not " one more.
+func aroundMaxCondition() map[string]func(not string) string {
+	return map[string]func(not string) string{
 		"the first condition": func(not string) string {
 			return "from a=b or a=b or a=b or not not " + not + "a=b do skip;" + choices() + " to " + behind28
 		},
@@ -101,7 +101,11 @@ func TestConditionsAtMaxCondition(t *testing.T) {
 		"what comes out of a loop": func(not string) string {
 			return "from true do while a=b keep not " + not + "a=b or a=b or a=b do skip end;" + choices() + " to " + behind28
 		},
-	} {
+	}
+}
+
+func TestConditionsAtMaxCondition(t *testing.T) {
+	for name, program := range aroundMaxCondition() {
 		list, errno, place := avouch.Conditions(program(""))
 		longest := 0
 		for _, condition := range list {
@@ -117,18 +121,19 @@ func TestConditionsAtMaxCondition(t *testing.T) {
 	}
 }
 
-// TestConditionsTooLongOnTheWay: what must hold ahead of a choice is at the
-// bound or one past it, but an assignment ahead of it makes it short again.
+// bigOnTheWay: what must hold ahead of a choice is at the bound, or with
+// "not " one past it, but an assignment ahead of it makes it short again.
+func bigOnTheWay(not string) string {
+	return "from true do a:=b;if a=b then while a=b keep not " + not + "a=b or a=b do skip end else skip end;" + choices() + " to " + behind28
+}
+
 func TestConditionsTooLongOnTheWay(t *testing.T) {
-	program := func(not string) string {
-		return "from true do a:=b;if a=b then while a=b keep not " + not + "a=b or a=b do skip end else skip end;" + choices() + " to " + behind28
-	}
-	for _, condition := range mustConditions(t, program("")) {
+	for _, condition := range mustConditions(t, bigOnTheWay("")) {
 		if len(condition) == api.MaxCondition {
 			t.Errorf("P6: a condition of %d bytes: nothing is on the way alone", len(condition))
 		}
 	}
-	list, errno, place := avouch.Conditions(program("not "))
+	list, errno, place := avouch.Conditions(bigOnTheWay("not "))
 	if len(list) != 0 || errno != api.ErrBig || place != 0 {
 		t.Errorf("P6: one past the bound on the way: %d conditions, %d, %d", len(list), errno, place)
 	}

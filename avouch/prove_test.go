@@ -36,7 +36,7 @@ func mustProve(t *testing.T, condition string, budget int) api.Answer {
 }
 
 func sameAnswer(one, other api.Answer) bool {
-	return one.Verdict == other.Verdict && one.Model == other.Model && slices.Equal(one.Proofs, other.Proofs)
+	return one.Verdict == other.Verdict && one.Index == other.Index && one.Model == other.Model && slices.Equal(one.Proofs, other.Proofs)
 }
 
 func wantVerdict(t *testing.T, condition string, want int) {
@@ -148,7 +148,7 @@ func TestProveAtMaxCondition(t *testing.T) {
 func wantNoProve(t *testing.T, text string, budget int, want api.Errno) {
 	t.Helper()
 	answer, errno := avouch.Prove(text, budget)
-	if errno != want || !sameAnswer(answer, api.Answer{}) || answer.Index != 0 {
+	if errno != want || !sameAnswer(answer, api.Answer{}) {
 		t.Errorf("P9: Prove(%.60q, %d) = %+v, %d, want %d", text, budget, answer, errno, want)
 	}
 }

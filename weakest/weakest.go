@@ -10,29 +10,29 @@ import (
 	"avouch/syntax"
 )
 
-// Conditions are the texts of a program's conditions. It tells false, and no
-// condition, if one of them, or of those on the way, is too long.
-func Conditions(program syntax.Program) ([]string, bool) {
+// Conditions are a program's conditions. It tells false, and no condition, if
+// one of them, or of those on the way, is too long.
+func Conditions(program syntax.Program) ([]logic.Condition, bool) {
 	var w walk
 	ahead := w.commands(program.Body, formula(program.To))
 	w.found(logic.Of(logic.Implies, formula(program.From), ahead))
 	if w.tooLong {
 		return nil, false
 	}
-	slices.Reverse(w.texts)
-	return w.texts, true
+	slices.Reverse(w.list)
+	return w.list, true
 }
 
 // walk goes through a program from its last command to its first: what must
 // hold ahead of a command hangs on what comes behind it. So the conditions are
 // found in the reverse of their order.
 type walk struct {
-	texts   []string
+	list    []logic.Condition
 	tooLong bool
 }
 
 func (w *walk) found(whole logic.Condition) {
-	w.texts = append(w.texts, w.bounded(whole).Text())
+	w.list = append(w.list, w.bounded(whole))
 }
 
 // bounded lets nothing through that is too long. The walk goes on without it,

@@ -18,6 +18,20 @@ func mustParse(t *testing.T, text string) syntax.Program {
 	return program
 }
 
+// mustConditions are the texts of a program's conditions.
+func mustConditions(t *testing.T, text string) []string {
+	t.Helper()
+	list, fits := Conditions(mustParse(t, text))
+	if !fits {
+		t.Fatalf("%q has a condition that is too long", text)
+	}
+	var texts []string
+	for _, whole := range list {
+		texts = append(texts, whole.Text())
+	}
+	return texts
+}
+
 func TestFormulas(t *testing.T) {
 	for text, want := range map[string]string{
 		"true":                       "t",
@@ -66,9 +80,9 @@ func TestConditionsStandInTheOrderOfTheLoops(t *testing.T) {
 	}
 	text := "from true do " + loop("1", loop("2", "skip")+";"+loop("3", "skip")) + ";" +
 		"if true then " + loop("4", "skip") + " else " + loop("5", "skip") + " end;" + loop("6", "skip") + " to true"
-	list, fits := Conditions(mustParse(t, text))
-	if !fits || len(list) != 13 {
-		t.Fatalf("%q, %v", list, fits)
+	list := mustConditions(t, text)
+	if len(list) != 13 {
+		t.Fatalf("%q", list)
 	}
 	for i, number := range []string{"0", "1", "2", "3", "4", "5"} {
 		test := "a-0<=" + number + "."
@@ -82,7 +96,7 @@ func TestConditionsStandInTheOrderOfTheLoops(t *testing.T) {
 }
 
 func TestWhatGoesAroundALoop(t *testing.T) {
-	list, fits := Conditions(mustParse(t, "from a<1 do while b<1 keep b<2 do b:=b+1; while c<1 keep c<2 do c:=c+2 end; b:=b+3 end; d:=d+4 to d<1"))
+	list := mustConditions(t, "from a<1 do while b<1 keep b<2 do b:=b+1; while c<1 keep c<2 do c:=c+2 end; b:=b+3 end; d:=d+4 to d<1")
 	want := []string{
 		">a-0<=0.b-0<=1.",
 		">&b-0<=1.b-0<=0.c-0<=1.",
@@ -90,7 +104,7 @@ func TestWhatGoesAroundALoop(t *testing.T) {
 		">&c-0<=1.c-0<=0.c-0<=-1.",
 		">&c-0<=1.!c-0<=0.b-0<=-2.",
 	}
-	if !fits || !slices.Equal(list, want) {
-		t.Errorf("%q, %v, want %q", list, fits, want)
+	if !slices.Equal(list, want) {
+		t.Errorf("%q, want %q", list, want)
 	}
 }
